@@ -1,0 +1,1 @@
+"""Two-level fractional factorial designs."""

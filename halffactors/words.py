@@ -1,0 +1,67 @@
+"""Masks, words and runs.
+
+A mask is a whole number whose binary digits are factors. A word is a tuple of a mask and a sign, 0 or 1.
+"""
+
+
+def mask_length(mask):
+    """How many factors the mask has."""
+    count = 0
+    rest = mask
+    while rest > 0:
+        count += rest & 1
+        rest >>= 1
+    return count
+
+
+def mask_order(mask):
+    """The key by which masks are ordered: by length, then by value."""
+    return (mask_length(mask), mask)
+
+
+def word_order(word):
+    """The key by which words are ordered: that of their masks."""
+    return mask_order(word[0])
+
+
+def word_product(first, second):
+    """The product of two words."""
+    return (first[0] ^ second[0], first[1] ^ second[1])
+
+
+def subgroup_of(generators):
+    """All products of the generators, the empty word first, the others in no promised order."""
+    words = [(0, 0)]
+    for generator in generators:
+        products = [word_product(word, generator) for word in words]
+        words = words + products
+    return words
+
+
+def defining_of(generators):
+    """The defining words, in order."""
+    return sorted(subgroup_of(generators)[1:], key=word_order)
+
+
+def aliases_of(generators, mask):
+    """The aliases of the effect with this mask, in order."""
+    effect = (mask, 0)
+    return sorted([word_product(effect, word) for word in subgroup_of(generators)], key=word_order)
+
+
+def sign_in_run(mask, run):
+    """The sign of the mask in the run: whether an odd number of its factors is at the low level."""
+    return mask_length(mask & ~run) % 2
+
+
+def satisfies(generators, run):
+    """Whether every generator has its sign in the run."""
+    for mask, sign in generators:
+        if sign_in_run(mask, run) != sign:
+            return False
+    return True
+
+
+def runs_of(factors, generators):
+    """The runs of the design, in increasing order as numbers."""
+    return [run for run in range(1 << factors) if satisfies(generators, run)]
