@@ -65,3 +65,61 @@ def satisfies(generators, run):
 def runs_of(factors, generators):
     """The runs of the design, in increasing order as numbers."""
     return [run for run in range(1 << factors) if satisfies(generators, run)]
+
+
+def products_of(masks):
+    """All products of the masks, the empty one, which is 0, among them."""
+    products = [0]
+    for mask in masks:
+        products = products + [product ^ mask for product in products]
+    return products
+
+
+def are_independent(masks):
+    """Whether no product of one or more of the masks is 0."""
+    products = [0]
+    for mask in masks:
+        # Each mask that passes doubles the products: so it's stopped at the first one that doesn't.
+        if mask in products:
+            return False
+        products = products + [product ^ mask for product in products]
+    return True
+
+
+def folded(generators, mask):
+    """The generators that folding over for the mask leaves."""
+    taken = []
+    products = subgroup_of(taken)
+    for word in defining_of(generators):
+        if mask_length(word[0] & mask) % 2 == 0 and word not in products:
+            taken.append(word)
+            products = subgroup_of(taken)
+    return taken
+
+
+def representatives_of(factors, generators):
+    """The effects that are their own representatives, in order."""
+    words = subgroup_of(generators)
+    aliased = {}
+    found = []
+    for mask in sorted(range(1 << factors), key=mask_order):
+        if mask not in aliased:
+            found.append(mask)
+            for word in words:
+                aliased[mask ^ word[0]] = True
+    return found
+
+
+def block_number(blocks, run):
+    """The number whose binary digits, the most significant one first, are the signs of these masks in the run."""
+    block = 0
+    for mask in blocks:
+        block = block * 2 + sign_in_run(mask, run)
+    return block
+
+
+def confounded_of(generators, blocks):
+    """The confounded effects, in order."""
+    aliased = [word[0] for word in subgroup_of(generators)]
+    products = products_of([word[0] for word in generators] + blocks)
+    return sorted([mask for mask in products if mask not in aliased], key=mask_order)

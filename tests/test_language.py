@@ -154,6 +154,33 @@ class Syntax(unittest.TestCase):
                 if isinstance(node, ast.Name) and isinstance(node.ctx, ast.Store):
                     self.assertNotIn(node.id, drawn | classes, path)
 
+    def test_sets_and_walks(self):
+        for path, tree in parsed():
+            allowed = set()
+            for node in ast.walk(tree):
+                if isinstance(node, (ast.For, ast.comprehension)):
+                    allowed.add(id(node.iter))
+                if isinstance(node, ast.Call) and isinstance(node.func, ast.Name) and node.func.id in (
+                        "list", "tuple", "dict", "sorted", "sum", "any", "all", "enumerate", "zip", "min", "max"):
+                    allowed |= {id(each) for each in node.args}
+            measured = {id(each) for node in ast.walk(tree) if isinstance(node, ast.Call)
+                        and isinstance(node.func, ast.Name) and node.func.id in ("len", "sorted") for each in node.args}
+            for node in ast.walk(tree):
+                self.assertNotIsInstance(node, ast.Set, path)
+                if isinstance(node, ast.Call) and isinstance(node.func, ast.Name):
+                    if node.func.id in ("range", "zip", "enumerate", "reversed"):
+                        self.assertIn(id(node), allowed, f"{path}:{node.lineno}")
+                    if node.func.id in ("set", "frozenset"):
+                        self.assertIn(id(node), measured, f"{path}:{node.lineno}")
+
+    def test_keywords(self):
+        told = {"sorted": ("key", "reverse"), "min": ("key", "default"), "max": ("key", "default"),
+                "sum": ("start",), "enumerate": ("start",), "zip": ("strict",)}
+        for place, node in self.each(ast.Call):
+            if node.keywords:
+                self.assertIsInstance(node.func, ast.Name, place)
+                self.assertLessEqual({each.arg for each in node.keywords}, set(told[node.func.id]), place)
+
     def test_methods(self):
         own = {each.name for place, node in self.each(ast.ClassDef) for each in node.body
                if isinstance(each, ast.FunctionDef)}

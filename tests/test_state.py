@@ -1,19 +1,38 @@
-"""The calls that change the design: create, add_generator, remove_generator; and generators, which shows it."""
+"""The calls that change the design: create, add_generator, remove_generator; generators and summary, which show it;
+and that refused calls change nothing."""
 
 import unittest
 
-from asking import (ADD_GENERATOR, ALIASES, CREATE, DEFINING, GENERATORS, IS_RUN, LARGEST, PATTERN, REMOVE_GENERATOR,
-                    REPRESENTATIVE, RESOLUTION, RUN_COUNT, RUNS, ask)
+from asking import (ADD_GENERATOR, ALIASES, BEST, BLOCK_OF, BLOCK_RUNS, CONFOUNDED, CREATE, DEFINING, FOLD, GENERATORS,
+                    IS_EQUIVALENT, IS_RUN, LARGEST, PATTERN, PROJECT, REMOVE_GENERATOR, REPRESENTATIVE, RESOLUTION,
+                    RUN_COUNT, RUNS, SET_BLOCKS, SUMMARY, TAKE_BEST, ask)
 
 # One of each call of the document but create, with arguments in their ranges for a design of some size.
 OTHER_CALLS = ([1, 3, 0], [2, 0], [3], [4], [5], [6], [7, 1], [8, 1], [9, 1, 1], [10, 1], [11], [12, 0], [13, 0],
                [14, 1], [15, 1], [16, 1, 1], [16, 0], [17, 0], [18, 0], [19], [20, 1, 2, 5, -5], [21, 2, 5, -5],
-               [22, 1, 0, 2, 1, 2], [22, 0, 0], [23, 4, 1], [24, 1], [25, 2, 3, 5],
-               [25, 0], [26])
+               [22, 1, 0, 2, 1, 2], [22, 0, 0], [23, 4, 1], [24, 1], [25, 2, 3, 5], [25, 0], [26])
 
-# Arguments that each call refuses once there is a design: -11 comes ahead of that.
-WRONG_CALLS = ([1, 0, 0], [1, LARGEST, LARGEST], [2, LARGEST], [7, LARGEST], [8, LARGEST], [9, LARGEST, 0],
-               [9, 1, 2], [10, 0], [10, LARGEST], [12, LARGEST], [13, LARGEST])
+# What each call refuses on the design of REFUSING, and how; ahead of the first create -11 comes ahead of that.
+REFUSED = (([0, 0], -22), ([0, 1], -22), ([0, 9], -22), ([0, LARGEST], -22),
+           ([1, 0, 0], -22), ([1, 32, 0], -22), ([1, 1, 2], -22), ([1, LARGEST, LARGEST], -22), ([1, 30, 0], -17),
+           ([2, 2], -2), ([2, LARGEST], -2), ([7, 32], -22), ([7, LARGEST], -22), ([8, 32], -22), ([8, LARGEST], -22),
+           ([9, 32, 0], -22), ([9, LARGEST, LARGEST], -22), ([9, 1, 2], -33), ([10, 0], -22), ([10, 7], -22),
+           ([10, 32], -22), ([10, LARGEST], -22), ([12, 9], -2), ([12, LARGEST], -2), ([13, 32], -22),
+           ([13, LARGEST], -22), ([14, 32], -22), ([14, LARGEST], -22), ([15, 32], -22), ([15, LARGEST], -22),
+           ([16, 1, 32], -22), ([16, 1, LARGEST], -22), ([16, 1, 0], -22), ([16, 1, 30], -22), ([16, 2, 4, 4], -22),
+           ([16, 256] + [8] * 256, -22), ([17, 1], -22), ([17, 32], -22), ([17, LARGEST], -22), ([18, 4], -2),
+           ([18, LARGEST], -2), ([20, 32, 8] + [1] * 8, -22), ([20, LARGEST, 8] + [1] * 8, -22),
+           ([20, 1, 7] + [1] * 7, -22), ([20, 1, 0], -22), ([20, 1, 8, 1000001] + [1] * 7, -22),
+           ([21, 9] + [1] * 9, -22), ([21, 0], -22), ([21, 256] + [1] * 256, -22), ([21, 8] + [1] * 7 + [-1000001], -22),
+           ([22, 1, 32, 0], -22), ([22, 0, 1, 32], -22), ([22, 0, 1, 0], -22), ([22, 1, LARGEST, 1, LARGEST], -22),
+           ([22, 0, 13] + list(range(1, 14)), -22), ([23, 1, 1], -22), ([23, 7, 1], -22), ([23, 4, 0], -22),
+           ([23, 4, 3], -22), ([23, 2, 2], -22), ([23, LARGEST, LARGEST], -22), ([24, 0], -22), ([24, 3], -22),
+           ([24, LARGEST], -22), ([25, 1, 0], -22), ([25, 1, 32], -22), ([25, 2, 7, 7], -22),
+           ([25, 256] + [LARGEST] * 256, -22))
+
+WRONG_CALLS = tuple(call for call, code in REFUSED if call[0] != CREATE)
+
+REFUSING = ([CREATE, 5], [ADD_GENERATOR, 7, 1], [ADD_GENERATOR, 25, 0], [SET_BLOCKS, 2, 1, 2])
 
 
 class NotCreated(unittest.TestCase):
@@ -154,6 +173,51 @@ class Generators(unittest.TestCase):
                 [RUNS, 0], [IS_RUN, 1]]
         told = ask([CREATE, 4], [ADD_GENERATOR, 14, 1], [ADD_GENERATOR, 3, 0], *asks, *asks)[3:]
         self.assertEqual(told[:len(asks)], told[len(asks):])
+
+
+class Summary(unittest.TestCase):
+
+    def test_a_new_design(self):
+        for factors in range(2, 9):
+            with self.subTest(factors=factors):
+                self.assertEqual(ask([CREATE, factors], [SUMMARY])[1], [factors, 0, 0, 2 ** factors])
+
+    def test_generators_and_blocks(self):
+        self.assertEqual(ask([CREATE, 6], [ADD_GENERATOR, 15, 1], [SUMMARY], [SET_BLOCKS, 3, 1, 2, 16], [SUMMARY],
+                             [ADD_GENERATOR, 51, 0], [SUMMARY], [SET_BLOCKS, 1, 3], [SUMMARY], [REMOVE_GENERATOR, 0],
+                             [SUMMARY], [FOLD, 1], [SUMMARY], [TAKE_BEST, 2], [SUMMARY])[2::2],
+                         [[6, 1, 0, 32], [6, 1, 3, 32], [6, 2, 0, 16], [6, 2, 1, 16], [6, 1, 0, 32], [6, 0, 0, 64],
+                          [6, 2, 0, 16]])
+
+    def test_as_many_generators_as_factors(self):
+        self.assertEqual(ask([CREATE, 2], [ADD_GENERATOR, 3, 1], [ADD_GENERATOR, 1, 1], [SUMMARY])[-1], [2, 2, 0, 1])
+
+
+class Refused(unittest.TestCase):
+
+    asks = ([SUMMARY], [GENERATORS], [DEFINING], [RUNS, 0], [CONFOUNDED], [BLOCK_OF, 8], [BLOCK_RUNS, 0],
+            [BLOCK_RUNS, 1], [BLOCK_RUNS, 2], [BLOCK_RUNS, 3])
+
+    def test_codes_and_that_nothing_is_changed(self):
+        for call, code in REFUSED:
+            with self.subTest(call=call):
+                told = ask(*REFUSING, *self.asks, call, *self.asks)[len(REFUSING):]
+                count = len(self.asks)
+                self.assertEqual(told[count], [code])
+                self.assertEqual(told[:count], told[count + 1:])
+                self.assertEqual(told[0], [5, 2, 2, 8])
+
+    def test_all_of_them_in_one_request(self):
+        told = ask(*REFUSING, *self.asks, *[call for call, code in REFUSED], *self.asks)[len(REFUSING):]
+        count = len(self.asks)
+        self.assertEqual(told[count:-count], [[code] for call, code in REFUSED])
+        self.assertEqual(told[:count], told[-count:])
+
+    def test_calls_that_only_ask_change_nothing(self):
+        others = [[PROJECT, 7], [BEST, 6, 2], [IS_EQUIVALENT, 2, 7, 25], [20, 1, 8] + [3] * 8, [21, 8] + [3] * 8,
+                  [22, 1, 0, 2, 1, 2], [BLOCK_OF, 0], [IS_RUN, 1]]
+        told = ask(*REFUSING, *self.asks, *others, *self.asks)[len(REFUSING):]
+        self.assertEqual(told[:len(self.asks)], told[-len(self.asks):])
 
 
 if __name__ == "__main__":
